@@ -23,11 +23,10 @@ class Board:
         self.wide = wide
         self.high = high
         self.size = wide * high
-        self.rays = [self.ray(cell, way) for cell, way in all_places(self.size)]
+        self.rays = [self.cells_from(cell, way) for cell, way in all_places(self.size)]
         self.track = self.whole_track()
 
-    # The cells from one on, that way, up to the square's side.
-    def ray(self, cell, way):
+    def cells_from(self, cell, way):
         cells = []
         column = cell % self.wide
         row = cell // self.wide
@@ -37,7 +36,8 @@ class Board:
             row += WAYS[way][1]
         return cells
 
-    # The cells under a word of that length, for each of its places in order.
+    # In the order of the rays, which is that of places: the search and the
+    # first place of a word lean on it.
     def paths(self, length):
         return [ray[:length] for ray in self.rays if len(ray) >= length]
 
@@ -71,7 +71,8 @@ def read_track(board, letters):
     return read_path(letters + [GAP], board.track)
 
 
-# Two stands for more too: a right square has none twice in one direction.
+# Stops at two, as no more can be right; and places may share cells, so each is
+# looked for from the cell behind the last one's first on.
 def times_in(text, word):
     first = text.find(word)
     if first < 0:
@@ -99,7 +100,6 @@ def first_cell(board, letters, word):
     return starts[0]
 
 
-# The cells from the first to the last; none if they aren't two in one line.
 def path_between(board, first, last):
     across = abs(last % board.wide - first % board.wide)
     down = abs(last // board.wide - first // board.wide)
