@@ -94,10 +94,20 @@ def is_right(board, letters, words):
     return True
 
 
-def first_cell(board, letters, word):
+def first_path(board, letters, word):
     paths = board.paths(len(word))
-    starts = [path[0] for path in paths if read_path(letters, path) == word]
-    return starts[0]
+    held = [path for path in paths if read_path(letters, path) == word]
+    return held[0]
+
+
+# The first place is enough: a right square has no other, but the same cells
+# again for a word that's the same backwards.
+def used_cells(board, letters, words):
+    used = {}
+    for word in words:
+        for cell in first_path(board, letters, word):
+            used[cell] = True
+    return used
 
 
 def path_between(board, first, last):

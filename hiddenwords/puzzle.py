@@ -1,14 +1,18 @@
 """The puzzle, its calls, and their answers as one list of numbers."""
 
-from hiddenwords.board import Board, first_cell, is_right, is_side, path_between, read_path
+from hiddenwords.board import Board, first_path, is_right, is_side, path_between, read_path, used_cells
 from hiddenwords.making import Search
 from hiddenwords.reader import Reader
-from hiddenwords.words import NO_REFUSAL, are_letters, backwards, lines_of, list_refusal, text_of
+from hiddenwords.words import NO_REFUSAL, are_letters, backwards, bytes_of, lines_of, list_refusal, text_of
 
 LOAD = 0
 MAKE = 1
 GUESS = 2
 HINT = 3
+REST = 4
+LEFT = 5
+TELL = 6
+SCORE = 7
 
 OUT_OF_RANGE = -22
 NOT_RIGHT = -33
@@ -119,10 +123,40 @@ class Puzzle:
     def hint(self):
         if self.board is None:
             return [NO_SQUARE]
-        for number, finder in enumerate(self.finders):
-            if finder is None:
-                return [number, first_cell(self.board, self.letters, self.words[number])]
-        return [ALL_FOUND]
+        numbers = self.unfound()
+        if len(numbers) == 0:
+            return [ALL_FOUND]
+        path = first_path(self.board, self.letters, self.words[numbers[0]])
+        return [numbers[0], path[0]]
+
+    def unfound(self):
+        return [number for number, finder in enumerate(self.finders) if finder is None]
+
+    def rest(self):
+        if self.board is None:
+            return [NO_SQUARE]
+        found = [word for word, finder in zip(self.words, self.finders) if finder is not None]
+        used = used_cells(self.board, self.letters, found)
+        unused = [letter for cell, letter in enumerate(self.letters) if cell not in used]
+        return [len(unused)] + bytes_of(unused)
+
+    def left(self):
+        if self.board is None:
+            return [NO_SQUARE]
+        numbers = self.unfound()
+        return [len(numbers)] + numbers
+
+    def tell(self):
+        if self.board is None:
+            return [NO_SQUARE]
+        return [self.board.wide] + bytes_of(self.letters)
+
+    def score(self, who):
+        if self.board is None:
+            return [NO_SQUARE]
+        if who >= PLAYERS:
+            return [OUT_OF_RANGE]
+        return [self.finders.count(who), self.wrong[who]]
 
 
 def load_answer(puzzle, reader):
@@ -158,6 +192,14 @@ def call_answer(puzzle, reader):
         return guess_answer(puzzle, reader)
     if call == HINT:
         return puzzle.hint()
+    if call == REST:
+        return puzzle.rest()
+    if call == LEFT:
+        return puzzle.left()
+    if call == TELL:
+        return puzzle.tell()
+    if call == SCORE:
+        return puzzle.score(reader.take())
     raise UnknownCall(f"no call has the number {call}")
 
 

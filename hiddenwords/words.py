@@ -23,6 +23,10 @@ def text_of(row):
     return "".join([LETTERS[byte - FIRST_LETTER] for byte in row])
 
 
+def bytes_of(letters):
+    return [ord(letter) for letter in letters]
+
+
 def backwards(word):
     return "".join(reversed(word))
 

@@ -9,16 +9,17 @@ def numbers(row):
     return list(row)
 
 
-def with_length(row):
-    return [len(numbers(row))] + numbers(row)
+def counted(row):
+    """How many numbers a row has, then these: rows are handed in so, and rest and left answer so."""
+    return [len(row)] + numbers(row)
 
 
 def load(wide, cells, listing):
-    return [0, wide] + with_length(cells) + with_length(listing)
+    return [0, wide] + counted(cells) + counted(listing)
 
 
 def make(wide, high, most, listing, filling):
-    return [1, wide, high, most] + with_length(listing) + with_length(filling)
+    return [1, wide, high, most] + counted(listing) + counted(filling)
 
 
 def guess(who, first, last):
@@ -27,6 +28,27 @@ def guess(who, first, last):
 
 def hint():
     return [3]
+
+
+def rest():
+    return [4]
+
+
+def left():
+    return [5]
+
+
+def tell():
+    return [6]
+
+
+def score(who):
+    return [7, who]
+
+
+def state():
+    """The calls that together tell all there is, and change nothing."""
+    return [hint(), rest(), left(), tell()] + [score(who) for who in range(4)]
 
 
 def parted(told):

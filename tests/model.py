@@ -60,6 +60,12 @@ class Model:
     def begin(self, square, wide, high, words):
         self.square, self.wide, self.high, self.words = square, wide, high, words
         self.found = {}
+        self.wrong = [0, 0, 0, 0]
+
+    def ends(self):
+        """The first and the last cell of each word."""
+        found = [places_of(self.square, self.wide, self.high, word)[0] for word in self.words]
+        return [tuple(y * self.wide + x for x, y in (cells[0], cells[-1])) for cells in found]
 
     def load(self, wide, cells, listing):
         high = len(cells) // wide if wide else 0
@@ -119,6 +125,7 @@ class Model:
                     return [-17]
                 self.found[number] = who
                 return [number]
+        self.wrong[who] += 1
         return [255]
 
     def hint(self):
@@ -129,6 +136,34 @@ class Model:
                 x, y = places_of(self.square, self.wide, self.high, word)[0][0]
                 return [number, y * self.wide + x]
         return [-6]
+
+    def rest(self):
+        if self.square is None:
+            return [-61]
+        used = set()
+        for number in self.found:
+            for cells in places_of(self.square, self.wide, self.high, self.words[number]):
+                used.update(cells)
+        unused = [self.square[x, y] for y in range(self.high) for x in range(self.wide) if (x, y) not in used]
+        return [len(unused), *unused]
+
+    def left(self):
+        if self.square is None:
+            return [-61]
+        numbers = sorted(set(range(len(self.words))) - set(self.found))
+        return [len(numbers), *numbers]
+
+    def tell(self):
+        if self.square is None:
+            return [-61]
+        return [self.wide] + [self.square[x, y] for y in range(self.high) for x in range(self.wide)]
+
+    def score(self, who):
+        if self.square is None:
+            return [-61]
+        if who > 3:
+            return [-22]
+        return [sum(1 for finder in self.found.values() if finder == who), self.wrong[who]]
 
 
 def squares(square, wide, high, words):

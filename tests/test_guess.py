@@ -2,8 +2,7 @@
 
 import unittest
 
-from hiddenwords.puzzle import Puzzle
-from tests.calls import ask, guess, hint, last, load, make, numbers
+from tests.calls import ask, guess, hint, last, load, make, score
 
 ALL = "abcdefghijklmnopqrstuvwxy"
 # From the middle, cell 12, two steps each way, and the cell that leads to.
@@ -64,13 +63,9 @@ class Lines(unittest.TestCase):
         self.assertEqual(last(load(2, "abcd", "bc"), guess(0, 1, 2)), [0])
 
     def test_refused_does_not_count_as_wrong(self):
-        puzzle = Puzzle()
-        puzzle.load(3, numbers("catxyz"), numbers("cat"))
-        for refused in ((0, 0, 0), (0, 0, 5), (4, 0, 1), (0, 6, 0), (0, 0, 6)):
-            self.assertLess(puzzle.guess(*refused)[0], 0)
-        self.assertEqual(puzzle.guess(0, 0, 2), [0])
-        self.assertEqual(puzzle.guess(0, 0, 2), [-17])
-        self.assertEqual(puzzle.wrong, [0, 0, 0, 0])
+        refused = (guess(0, 0, 0), guess(0, 0, 5), guess(4, 0, 1), guess(0, 6, 0), guess(0, 0, 6))
+        told = ask(load(3, "catxyz", "cat"), *refused, guess(0, 0, 2), guess(0, 0, 2), score(0))
+        self.assertEqual(told[1:], [[-71], [-71], [-22], [-22], [-22], [0], [-17], [1, 0]])
 
 
 class Ranges(unittest.TestCase):
@@ -106,13 +101,8 @@ class Found(unittest.TestCase):
         self.assertEqual(told[1:], [[3], [-17], [-17]])
 
     def test_stays_with_who_found_it(self):
-        puzzle = Puzzle()
-        puzzle.load(4, numbers("catswxyz"), numbers("cats\ncat\nat"))
-        puzzle.guess(2, 0, 2)
-        self.assertEqual(puzzle.finders, [None, 2, None])
-        puzzle.guess(0, 0, 2)
-        puzzle.guess(0, 2, 1)
-        self.assertEqual(puzzle.finders, [None, 2, 0])
+        told = ask(LINE, guess(2, 0, 2), guess(0, 0, 2), guess(0, 2, 1), score(2), score(0))
+        self.assertEqual(told[1:], [[1], [-17], [2], [1, 0], [1, 0]])
 
     def test_same_backwards(self):
         square = load(3, "abaxyz", "aba")
@@ -140,21 +130,9 @@ class Wrong(unittest.TestCase):
         self.assertEqual(told[1:], [[255], [255], [0]])
 
     def test_who_went_wrong_how_often(self):
-        puzzle = Puzzle()
-        self.assertEqual(puzzle.wrong, [0, 0, 0, 0])
-        puzzle.load(3, numbers("catxyz"), numbers("cat"))
-        for who in (0, 3, 3, 1, 3):
-            self.assertEqual(puzzle.guess(who, 3, 5), [255])
-        self.assertEqual(puzzle.wrong, [1, 1, 0, 3])
-
-    def test_a_million_at_most(self):
-        puzzle = Puzzle()
-        puzzle.load(3, numbers("catxyz"), numbers("cat"))
-        puzzle.wrong[1] = 999999
-        self.assertEqual(puzzle.guess(1, 3, 5), [255])
-        self.assertEqual(puzzle.wrong[1], 1000000)
-        self.assertEqual(puzzle.guess(1, 3, 5), [255])
-        self.assertEqual(puzzle.wrong[1], 1000000)
+        wrong = [guess(who, 3, 5) for who in (0, 3, 3, 1, 3)]
+        told = ask(load(3, "catxyz", "cat"), *wrong, *[score(who) for who in range(4)])
+        self.assertEqual(told[1:], [[255]] * 5 + [[0, 1], [0, 1], [0, 0], [0, 3]])
 
 
 class NoSquare(unittest.TestCase):

@@ -2,8 +2,7 @@
 
 import unittest
 
-from hiddenwords.puzzle import Puzzle
-from tests.calls import ask, guess, hint, last, load, numbers
+from tests.calls import ask, guess, hint, last, load, score
 
 # Every letter once, so that each line of it is there just once.
 ALL = "abcdefghijklmnopqrstuvwxy"
@@ -216,15 +215,10 @@ class Object(unittest.TestCase):
         self.assertEqual(told, [[2], [0], [2], [0, 3], [1], [-22]])
 
     def test_nobody_went_wrong(self):
-        puzzle = Puzzle()
-        square = (3, numbers("catxyzdog"), numbers("cat"))
-        puzzle.load(*square)
-        puzzle.guess(2, 0, 1)
-        self.assertEqual(puzzle.wrong, [0, 0, 1, 0])
-        self.assertEqual(puzzle.load(3, numbers("catxyzdog"), numbers("tac\ncow")), [-33])
-        self.assertEqual(puzzle.wrong, [0, 0, 1, 0])
-        self.assertEqual(puzzle.load(*square), [1])
-        self.assertEqual(puzzle.wrong, [0, 0, 0, 0])
+        square = load(3, "catxyzdog", "cat")
+        refused = load(3, "catxyzdog", "tac\ncow")
+        told = ask(square, guess(2, 0, 1), score(2), refused, score(2), square, score(2))
+        self.assertEqual(told, [[1], [255], [0, 1], [-33], [0, 1], [1], [0, 0]])
 
 
 if __name__ == "__main__":

@@ -3,8 +3,7 @@
 import unittest
 
 from hiddenwords.making import filled
-from hiddenwords.puzzle import Puzzle
-from tests.calls import ask, guess, hint, last, load, make, numbers
+from tests.calls import ask, guess, hint, last, load, make, numbers, score, tell
 
 PAIRS = ["ab", "cd", "ef", "gh", "ij", "kl", "mn", "op", "qr", "st", "uv", "wx", "yz"]
 
@@ -180,10 +179,7 @@ class Filling(unittest.TestCase):
         self.assertEqual(last(make(4, 2, 2000, "ab", "bcc")), [10])
 
     def test_what_was_made(self):
-        puzzle = Puzzle()
-        told = puzzle.make(4, 2, 2000, numbers("ab"), numbers("bcc"))
-        self.assertEqual(told, [10])
-        self.assertEqual("".join(puzzle.letters), "bcac" + "bccb")
+        self.assertEqual(ask(make(4, 2, 2000, "ab", "bcc"), tell()), [[10], [4] + numbers("bcac" + "bccb")])
 
 
 class Object(unittest.TestCase):
@@ -221,15 +217,10 @@ class Object(unittest.TestCase):
         self.assertEqual(told, [[1], [0], [2], [0, 0], [0], [1], [0, 2], [-22]])
 
     def test_nobody_went_wrong(self):
-        puzzle = Puzzle()
-        square = (3, 2, 2000, numbers("cat"), numbers("x"))
-        puzzle.make(*square)
-        puzzle.guess(2, 0, 1)
-        self.assertEqual(puzzle.wrong, [0, 0, 1, 0])
-        self.assertEqual(puzzle.make(3, 2, 0, numbers("cat"), numbers("x")), [-35])
-        self.assertEqual(puzzle.wrong, [0, 0, 1, 0])
-        self.assertEqual(puzzle.make(*square), [1])
-        self.assertEqual(puzzle.wrong, [0, 0, 0, 0])
+        square = make(3, 2, 2000, "cat", "x")
+        refused = make(3, 2, 0, "cat", "x")
+        told = ask(square, guess(2, 0, 1), score(2), refused, score(2), square, score(2))
+        self.assertEqual(told, [[1], [255], [0, 1], [-35], [0, 1], [1], [0, 0]])
 
 
 if __name__ == "__main__":
